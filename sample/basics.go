@@ -1,0 +1,113 @@
+package sample
+
+import (
+	"math"
+
+	"versine/api"
+)
+
+const (
+	// grain is how many steps of a sample are 1.
+	grain = 16
+	// maxInteger is the greatest integer of a sample.
+	maxInteger = grain * api.MaxValue
+	// drawFactor and drawModulus generate the exchanges of the permutation.
+	drawFactor  = 742938285
+	drawModulus = 2147483647
+)
+
+// IsName reports whether a string is a name.
+func IsName(s string) bool {
+	if s == "" || len(s) > api.MaxName {
+		return false
+	}
+	for i, c := range s {
+		if !isLetter(c) && (i == 0 || !isDigit(c) && c != '_') {
+			return false
+		}
+	}
+	return true
+}
+
+func isLetter(c rune) bool { return 'A' <= c && c <= 'Z' || 'a' <= c && c <= 'z' }
+
+func isDigit(c rune) bool { return '0' <= c && c <= '9' }
+
+// Draw returns the permutation of n elements by a key.
+func Draw(key, n int) ([]int, api.Errno) {
+	if e := firstError(checkBetween(key, 1, drawModulus-1), checkBetween(n, 0, api.MaxList)); e != api.OK {
+		return nil, e
+	}
+	l := make([]int, n)
+	for i := range l {
+		l[i] = i
+	}
+	x := int64(key)
+	for i := n - 1; i >= 1; i-- {
+		x = drawFactor * x % drawModulus
+		k := int(x % int64(i+1))
+		l[i], l[k] = l[k], l[i]
+	}
+	return l, api.OK
+}
+
+// CheckRatio returns the first error of a ratio, or OK.
+func CheckRatio(x api.Ratio) api.Errno {
+	if e := firstError(checkBetween(x.Num, -api.MaxNumber, api.MaxNumber), checkBetween(x.Den, 1, api.MaxNumber)); e != api.OK {
+		return e
+	}
+	return errorIf(commonDivisor(x.Num, x.Den) != 1, api.ErrForm)
+}
+
+// commonDivisor returns the greatest common divisor of any number and one above 0.
+func commonDivisor(a, b int) int {
+	a = max(a, -a)
+	for a != 0 {
+		a, b = b%a, a
+	}
+	return b
+}
+
+// CheckSample returns the first error of a sample, or OK.
+func CheckSample(x float32) api.Errno {
+	if !isFinite(x) {
+		return api.ErrForm
+	}
+	return errorIf(!isStep(x, api.MaxValue), api.ErrRange)
+}
+
+// checkSamples returns the error of the first sample with one, or OK.
+func checkSamples(l ...float32) api.Errno {
+	for _, x := range l {
+		if e := CheckSample(x); e != api.OK {
+			return e
+		}
+	}
+	return api.OK
+}
+
+func isFinite(x float32) bool {
+	return !math.IsNaN(float64(x)) && !math.IsInf(float64(x), 0)
+}
+
+// isStep reports whether a finite number is a multiple of 1/16 from -most to most.
+func isStep(x float32, most int) bool {
+	n := grain * float64(x) // exact: a float64 has room for each float32, times 16
+	return math.Abs(n) <= float64(grain*most) && n == math.Trunc(n)
+}
+
+// integerOf returns the integer of a sample.
+func integerOf(x float32) int { return int(grain * x) }
+
+// sampleOf returns the sample with an integer; it is never -0.
+func sampleOf(integer int) float32 { return float32(integer) / grain }
+
+// rounded returns a quotient with a denominator above 0, rounded to the nearest
+// integer, from the middle to the greater one.
+func rounded(num, den int) int {
+	num, den = 2*num+den, 2*den
+	if num < 0 { // Go's division goes towards 0, this one downwards
+		return -((den - 1 - num) / den)
+	}
+	return num / den
+}
