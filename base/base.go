@@ -1,0 +1,51 @@
+// Package base has what several layers use beside api: first errors, lists, and
+// the words of texts.
+package base
+
+import (
+	"versine/api"
+)
+
+// FirstError returns the first error of a list, or OK. All of them have been
+// computed when it is called, so each must be defined also where an earlier
+// one is not OK.
+func FirstError(errors ...api.Errno) api.Errno {
+	for _, e := range errors {
+		if e != api.OK {
+			return e
+		}
+	}
+	return api.OK
+}
+
+// ErrorIf returns the error if it is so, and OK otherwise.
+func ErrorIf(is bool, e api.Errno) api.Errno {
+	if is {
+		return e
+	}
+	return api.OK
+}
+
+// CheckBetween returns ErrRange for a number that is not from least to most.
+func CheckBetween(n, least, most int) api.Errno {
+	return ErrorIf(n < least || n > most, api.ErrRange)
+}
+
+// CheckEach returns the error of the first element with one, or OK.
+func CheckEach[T any](l []T, check func(T) api.Errno) api.Errno {
+	for _, x := range l {
+		if e := check(x); e != api.OK {
+			return e
+		}
+	}
+	return api.OK
+}
+
+// Mapped returns the list of what f makes of each element.
+func Mapped[T, U any](l []T, f func(T) U) []U {
+	out := make([]U, len(l))
+	for i, x := range l {
+		out[i] = f(x)
+	}
+	return out
+}

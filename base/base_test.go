@@ -1,0 +1,59 @@
+package base_test
+
+import (
+	"slices"
+	"testing"
+
+	"versine/api"
+	"versine/base"
+)
+
+func TestFirstError(t *testing.T) {
+	for i, x := range []struct {
+		errors []api.Errno
+		e      api.Errno
+	}{
+		{nil, api.OK},
+		{[]api.Errno{api.OK, api.OK}, api.OK},
+		{[]api.Errno{api.OK, api.ErrSpan, api.ErrName}, api.ErrSpan},
+		{[]api.Errno{api.ErrName, api.OK, api.ErrSpan}, api.ErrName},
+	} {
+		if e := base.FirstError(x.errors...); e != x.e {
+			t.Errorf("FirstError %v: got %v, want %v", i, e, x.e)
+		}
+	}
+	if base.ErrorIf(true, api.ErrName) != api.ErrName || base.ErrorIf(false, api.ErrName) != api.OK {
+		t.Error("ErrorIf")
+	}
+}
+
+func TestCheckBetween(t *testing.T) {
+	for n, e := range map[int]api.Errno{-4: api.ErrRange, -3: api.OK, 0: api.OK, 2: api.OK, 3: api.ErrRange} {
+		if got := base.CheckBetween(n, -3, 2); got != e {
+			t.Errorf("CheckBetween of %v: got %v, want %v", n, got, e)
+		}
+	}
+}
+
+// TestCheckEach checks that nothing behind the first error is examined.
+func TestCheckEach(t *testing.T) {
+	var examined []int
+	check := func(n int) api.Errno {
+		examined = append(examined, n)
+		return api.Errno(n)
+	}
+	if e := base.CheckEach([]int{0, 0, 5, 7}, check); e != 5 || !slices.Equal(examined, []int{0, 0, 5}) {
+		t.Errorf("CheckEach: got %v for %v", e, examined)
+	}
+	if e := base.CheckEach(nil, check); e != api.OK {
+		t.Errorf("CheckEach of nothing: got %v", e)
+	}
+}
+
+func TestMapped(t *testing.T) {
+	l := []int{3, 0, 2}
+	got := base.Mapped(l, func(n int) string { return "abc"[:n] })
+	if !slices.Equal(got, []string{"abc", "", "ab"}) || !slices.Equal(l, []int{3, 0, 2}) {
+		t.Errorf("Mapped: got %q of %v", got, l)
+	}
+}
