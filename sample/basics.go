@@ -4,6 +4,7 @@ import (
 	"math"
 
 	"versine/api"
+	"versine/base"
 )
 
 const (
@@ -22,7 +23,7 @@ func IsName(s string) bool {
 		return false
 	}
 	for i, c := range s {
-		if !isLetter(c) && (i == 0 || !isDigit(c) && c != '_') {
+		if !isLetter(c) && (i == 0 || !base.IsDigit(c) && c != '_') {
 			return false
 		}
 	}
@@ -31,11 +32,9 @@ func IsName(s string) bool {
 
 func isLetter(c rune) bool { return 'A' <= c && c <= 'Z' || 'a' <= c && c <= 'z' }
 
-func isDigit(c rune) bool { return '0' <= c && c <= '9' }
-
 // Draw returns the permutation of n elements by a key.
 func Draw(key, n int) ([]int, api.Errno) {
-	if e := firstError(checkBetween(key, 1, drawModulus-1), checkBetween(n, 0, api.MaxList)); e != api.OK {
+	if e := base.FirstError(base.CheckBetween(key, 1, drawModulus-1), base.CheckBetween(n, 0, api.MaxList)); e != api.OK {
 		return nil, e
 	}
 	l := make([]int, n)
@@ -53,10 +52,10 @@ func Draw(key, n int) ([]int, api.Errno) {
 
 // CheckRatio returns the first error of a ratio, or OK.
 func CheckRatio(x api.Ratio) api.Errno {
-	if e := firstError(checkBetween(x.Num, -api.MaxNumber, api.MaxNumber), checkBetween(x.Den, 1, api.MaxNumber)); e != api.OK {
+	if e := base.FirstError(base.CheckBetween(x.Num, -api.MaxNumber, api.MaxNumber), base.CheckBetween(x.Den, 1, api.MaxNumber)); e != api.OK {
 		return e
 	}
-	return errorIf(commonDivisor(x.Num, x.Den) != 1, api.ErrForm)
+	return base.ErrorIf(commonDivisor(x.Num, x.Den) != 1, api.ErrForm)
 }
 
 // commonDivisor returns the greatest common divisor of any number and one above 0.
@@ -73,17 +72,12 @@ func CheckSample(x float32) api.Errno {
 	if !isFinite(x) {
 		return api.ErrForm
 	}
-	return errorIf(!isStep(x, api.MaxValue), api.ErrRange)
+	return base.ErrorIf(!isStep(x, api.MaxValue), api.ErrRange)
 }
 
 // checkSamples returns the error of the first sample with one, or OK.
 func checkSamples(l ...float32) api.Errno {
-	for _, x := range l {
-		if e := CheckSample(x); e != api.OK {
-			return e
-		}
-	}
-	return api.OK
+	return base.CheckEach(l, CheckSample)
 }
 
 func isFinite(x float32) bool {

@@ -6,6 +6,7 @@ import (
 	"slices"
 
 	"versine/api"
+	"versine/base"
 )
 
 const (
@@ -19,9 +20,9 @@ const (
 )
 
 func checkPacket(p Packet) api.Errno {
-	return firstError(
-		checkBetween(p.Source, 0, maxSource),
-		checkBetween(p.Counter, 0, counters-1),
+	return base.FirstError(
+		base.CheckBetween(p.Source, 0, maxSource),
+		base.CheckBetween(p.Counter, 0, counters-1),
 		checkSamples(p.Readings[:]...),
 	)
 }
@@ -88,11 +89,11 @@ func Decode(s [Size]byte) (Packet, api.Errno) {
 		p.Readings[i] = floatOf(s[at : at+width])
 	}
 	body := s[:Size-width]
-	e := firstError(
-		errorIf(s[0] != Mark, api.ErrForm),
-		errorIf(numberOf(s[Size-width:]) != checksum(body), api.ErrCheck),
+	e := base.FirstError(
+		base.ErrorIf(s[0] != Mark, api.ErrForm),
+		base.ErrorIf(numberOf(s[Size-width:]) != checksum(body), api.ErrCheck),
 		checkSamples(p.Readings[:]...),
-		errorIf(frameOf(p) != s, api.ErrForm), // now only a reading -0 is written otherwise
+		base.ErrorIf(frameOf(p) != s, api.ErrForm), // now only a reading -0 is written otherwise
 	)
 	if e != api.OK {
 		return Packet{}, e
@@ -146,8 +147,8 @@ func Lost(l []Packet, source int) ([]int, api.Errno) {
 	if len(l) > MaxPackets {
 		return nil, api.ErrMany
 	}
-	errors := mapped(l, checkPacket)
-	if e := firstError(firstError(errors...), checkBetween(source, 0, maxSource)); e != api.OK {
+	errors := base.Mapped(l, checkPacket)
+	if e := base.FirstError(base.FirstError(errors...), base.CheckBetween(source, 0, maxSource)); e != api.OK {
 		return nil, e
 	}
 	lost, all := lostOf(l, source)

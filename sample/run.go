@@ -4,22 +4,23 @@ import (
 	"slices"
 
 	"versine/api"
+	"versine/base"
 )
 
 // CheckRun returns the first error of a run, or OK.
 func CheckRun(r Run) api.Errno {
 	n := len(r.Samples)
-	e := firstError(
-		errorIf(!IsName(r.Name), api.ErrName),
-		checkBetween(r.First, 0, api.MaxPlace),
-		errorIf(n > api.MaxSamples, api.ErrMany),
+	e := base.FirstError(
+		base.ErrorIf(!IsName(r.Name), api.ErrName),
+		base.CheckBetween(r.First, 0, api.MaxPlace),
+		base.ErrorIf(n > api.MaxSamples, api.ErrMany),
 	)
 	if e != api.OK {
 		return e
 	}
-	e = firstError(
+	e = base.FirstError(
 		checkSamples(r.Samples...),
-		errorIf(r.First+n > api.MaxPlace, api.ErrLarge),
+		base.ErrorIf(r.First+n > api.MaxPlace, api.ErrLarge),
 		checkHoles(r.Holes, n),
 	)
 	if e != api.OK {
@@ -32,9 +33,9 @@ func CheckRun(r Run) api.Errno {
 func checkHoles(holes []api.Span, samples int) api.Errno {
 	end := -1 // of the hole before: every first one begins above it
 	for _, h := range holes {
-		e := firstError(
-			errorIf(h.From < 0 || h.From >= h.To || h.To > samples, api.ErrSpan),
-			errorIf(h.From <= end, api.ErrOrder),
+		e := base.FirstError(
+			base.ErrorIf(h.From < 0 || h.From >= h.To || h.To > samples, api.ErrSpan),
+			base.ErrorIf(h.From <= end, api.ErrOrder),
 		)
 		if e != api.OK {
 			return e
@@ -65,7 +66,7 @@ type cell struct {
 
 // cellsOf returns the cells of a run without an error.
 func cellsOf(r Run) []cell {
-	cells := mapped(r.Samples, func(x float32) cell { return cell{integerOf(x), true} })
+	cells := base.Mapped(r.Samples, func(x float32) cell { return cell{integerOf(x), true} })
 	for _, h := range r.Holes {
 		clear(cells[h.From:h.To])
 	}
@@ -74,7 +75,7 @@ func cellsOf(r Run) []cell {
 
 // runOf returns the run with these cells.
 func runOf(name string, first int, cells []cell) Run {
-	samples := mapped(cells, func(c cell) float32 { return sampleOf(c.integer) })
+	samples := base.Mapped(cells, func(c cell) float32 { return sampleOf(c.integer) })
 	return Run{Name: name, First: first, Samples: samples, Holes: holesOf(cells)}
 }
 
@@ -158,12 +159,12 @@ func Reversed(r Run) (Run, api.Errno) {
 
 // Joined returns two runs, joined.
 func Joined(a, b Run) (Run, api.Errno) {
-	if e := firstError(CheckRun(a), CheckRun(b)); e != api.OK {
+	if e := base.FirstError(CheckRun(a), CheckRun(b)); e != api.OK {
 		return Run{}, e
 	}
-	e := firstError(
-		errorIf(b.First < endOf(a), api.ErrOrder),
-		errorIf(endOf(b)-a.First > api.MaxSamples, api.ErrMany),
+	e := base.FirstError(
+		base.ErrorIf(b.First < endOf(a), api.ErrOrder),
+		base.ErrorIf(endOf(b)-a.First > api.MaxSamples, api.ErrMany),
 	)
 	if e != api.OK {
 		return Run{}, e
@@ -179,7 +180,7 @@ func haveOneShape(a, b Run) bool {
 
 // Sum returns the sum of two runs.
 func Sum(a, b Run) (Run, api.Errno) {
-	if e := firstError(CheckRun(a), CheckRun(b), errorIf(!haveOneShape(a, b), api.ErrShape)); e != api.OK {
+	if e := base.FirstError(CheckRun(a), CheckRun(b), base.ErrorIf(!haveOneShape(a, b), api.ErrShape)); e != api.OK {
 		return Run{}, e
 	}
 	cells, others := cellsOf(a), cellsOf(b)
@@ -198,11 +199,11 @@ func Sum(a, b Run) (Run, api.Errno) {
 
 // Scaled returns a run, scaled by a numerator and a denominator.
 func Scaled(r Run, num, den int) (Run, api.Errno) {
-	e := firstError(CheckRun(r), checkBetween(num, -MaxScale, MaxScale), checkBetween(den, 1, MaxScale))
+	e := base.FirstError(CheckRun(r), base.CheckBetween(num, -MaxScale, MaxScale), base.CheckBetween(den, 1, MaxScale))
 	if e != api.OK {
 		return Run{}, e
 	}
-	cells := mapped(cellsOf(r), func(c cell) cell {
+	cells := base.Mapped(cellsOf(r), func(c cell) cell {
 		return cell{rounded(c.integer*num, den), c.known}
 	})
 	if !areSamples(cells) {
@@ -213,7 +214,7 @@ func Scaled(r Run, num, den int) (Run, api.Errno) {
 
 // Thinned returns a run, thinned by a step.
 func Thinned(r Run, step int) (Run, api.Errno) {
-	if e := firstError(CheckRun(r), checkBetween(step, 1, MaxStep)); e != api.OK {
+	if e := base.FirstError(CheckRun(r), base.CheckBetween(step, 1, MaxStep)); e != api.OK {
 		return Run{}, e
 	}
 	if r.First%step != 0 {
@@ -230,7 +231,7 @@ func Thinned(r Run, step int) (Run, api.Errno) {
 
 // Filled returns a run whose short holes are filled.
 func Filled(r Run, most int) (Run, api.Errno) {
-	if e := firstError(CheckRun(r), checkBetween(most, 0, api.MaxSamples)); e != api.OK {
+	if e := base.FirstError(CheckRun(r), base.CheckBetween(most, 0, api.MaxSamples)); e != api.OK {
 		return Run{}, e
 	}
 	cells := cellsOf(r)

@@ -5,6 +5,7 @@ import (
 	"slices"
 
 	"versine/api"
+	"versine/base"
 )
 
 // heading is the beginning of each stream.
@@ -74,17 +75,17 @@ func Unpack(s []byte) (Run, api.Errno) {
 	}
 	c := cursor{rest: s}
 	start := c.take(len(heading))
-	if e := firstError(errorIf(c.torn, api.ErrTorn), errorIf(string(start) != heading, api.ErrForm)); e != api.OK {
+	if e := base.FirstError(base.ErrorIf(c.torn, api.ErrTorn), base.ErrorIf(string(start) != heading, api.ErrForm)); e != api.OK {
 		return Run{}, e
 	}
 	r := c.run()
 	sum := c.number(width)
-	e := firstError( // a stream with a heading is not shorter than a checksum
-		errorIf(c.torn, api.ErrTorn),
-		errorIf(len(c.rest) > 0, api.ErrShape),
-		errorIf(sum != checksum(s[:len(s)-width]), api.ErrCheck),
+	e := base.FirstError( // a stream with a heading is not shorter than a checksum
+		base.ErrorIf(c.torn, api.ErrTorn),
+		base.ErrorIf(len(c.rest) > 0, api.ErrShape),
+		base.ErrorIf(sum != checksum(s[:len(s)-width]), api.ErrCheck),
 		CheckRun(r),
-		errorIf(slices.ContainsFunc(r.Samples, isMinusZero), api.ErrForm),
+		base.ErrorIf(slices.ContainsFunc(r.Samples, isMinusZero), api.ErrForm),
 	)
 	if e != api.OK {
 		return Run{}, e

@@ -6,6 +6,7 @@ import (
 	"strings"
 
 	"versine/api"
+	"versine/base"
 )
 
 // The first words of lines.
@@ -15,53 +16,30 @@ const (
 	holeWord    = "hole"
 )
 
-// maxDigits is how many digits an integer of a text may have.
-const maxDigits = 9
-
 // Print returns the text of a run.
 func Print(r Run) (string, api.Errno) {
 	if e := CheckRun(r); e != api.OK {
 		return "", e
 	}
 	var s strings.Builder
-	s.WriteString(lineOf(runWord, r.Name, strconv.Itoa(r.First)))
+	s.WriteString(base.Line(runWord, r.Name, strconv.Itoa(r.First)))
 	end := 0
 	for _, h := range r.Holes {
 		s.WriteString(samplesLine(r.Samples[end:h.From]))
-		s.WriteString(lineOf(holeWord, strconv.Itoa(h.To-h.From)))
+		s.WriteString(base.Line(holeWord, strconv.Itoa(h.To-h.From)))
 		end = h.To
 	}
 	s.WriteString(samplesLine(r.Samples[end:]))
 	return s.String(), api.OK
 }
 
-// lineOf returns the line with these words.
-func lineOf(words ...string) string { return strings.Join(words, " ") + "\n" }
-
 // samplesLine returns the line of known samples; there is none of no samples.
 func samplesLine(l []float32) string {
 	if len(l) == 0 {
 		return ""
 	}
-	integers := mapped(l, func(x float32) string { return strconv.Itoa(integerOf(x)) })
-	return lineOf(samplesWord, strings.Join(integers, " "))
-}
-
-// words is what is left to be read of a line.
-type words struct {
-	rest string
-	over bool
-}
-
-// next reads a word, which is empty where a space is too many, and reports
-// whether there was one.
-func (w *words) next() (string, bool) {
-	if w.over {
-		return "", false
-	}
-	word, rest, more := strings.Cut(w.rest, " ")
-	w.rest, w.over = rest, !more
-	return word, true
+	integers := base.Mapped(l, func(x float32) string { return strconv.Itoa(integerOf(x)) })
+	return base.Line(samplesWord, strings.Join(integers, " "))
 }
 
 // reader reads the next word of a line.
@@ -136,19 +114,11 @@ func readInteger(next reader) (int, bool) {
 // integerIn returns the integer that a word is, and whether it is one.
 func integerIn(word string) (int, bool) {
 	digits, isNegative := strings.CutPrefix(word, "-")
-	if digits == "" || len(digits) > maxDigits {
-		return 0, false
+	n, isNumber := base.Number(digits)
+	if !isNegative {
+		return n, isNumber
 	}
-	for _, c := range digits {
-		if !isDigit(c) {
-			return 0, false
-		}
-	}
-	if digits[0] == '0' && (len(digits) > 1 || isNegative) {
-		return 0, false
-	}
-	n, err := strconv.Atoi(word)
-	return n, err == nil
+	return -n, isNumber && n > 0
 }
 
 // readText returns what lines say, and the index of the first one with an error,
@@ -159,11 +129,11 @@ func readText(lines []string) (text, int) {
 	before := ""
 	for i, line := range lines {
 		line, isEnded := strings.CutSuffix(line, "\n")
-		w := words{rest: line}
-		first, _ := w.next()
+		words := base.WordsOf(line)
+		first, _ := words.Next()
 		form, isKnown := forms[first]
 		isInPlace := (i == 0) == (first == runWord) && first != before
-		if !isEnded || !isKnown || !isInPlace || !form.read(&t, w.next) {
+		if !isEnded || !isKnown || !isInPlace || !form.read(&t, words.Next) {
 			return text{}, i
 		}
 		before = first
@@ -180,14 +150,14 @@ func (t text) check() api.Errno {
 			return n < -maxInteger || n > maxInteger
 		})
 	}
-	return firstError(errorIf(samples > api.MaxSamples, api.ErrMany), errorIf(isLarge, api.ErrLarge))
+	return base.FirstError(base.ErrorIf(samples > api.MaxSamples, api.ErrMany), base.ErrorIf(isLarge, api.ErrLarge))
 }
 
 // run returns the run of a text without an error of check.
 func (t text) run() Run {
 	var cells []cell
 	for _, l := range t.rows {
-		cells = append(cells, mapped(l.integers, func(n int) cell { return cell{n, true} })...)
+		cells = append(cells, base.Mapped(l.integers, func(n int) cell { return cell{n, true} })...)
 		cells = append(cells, make([]cell, l.hole)...)
 	}
 	return runOf(t.name, t.first, cells)

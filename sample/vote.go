@@ -4,15 +4,16 @@ import (
 	"slices"
 
 	"versine/api"
+	"versine/base"
 )
 
 // Voted returns the vote of three runs, and at how many indices each one is wrong.
 func Voted(l [3]Run, limit float32) (Run, [3]int, api.Errno) {
-	e := firstError(
+	e := base.FirstError(
 		CheckRun(l[0]), CheckRun(l[1]), CheckRun(l[2]),
-		errorIf(!haveOneShape(l[0], l[1]) || !haveOneShape(l[0], l[2]), api.ErrShape),
+		base.ErrorIf(!haveOneShape(l[0], l[1]) || !haveOneShape(l[0], l[2]), api.ErrShape),
 		CheckSample(limit),
-		errorIf(limit < 0, api.ErrRange),
+		base.ErrorIf(limit < 0, api.ErrRange),
 	)
 	if e != api.OK {
 		return Run{}, [3]int{}, e
