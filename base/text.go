@@ -5,8 +5,9 @@ import (
 	"strings"
 )
 
-// maxDigits is how many digits a number of a text may have.
-const maxDigits = 9
+// MaxDigits is how many digits a number of a text may have, where its chapter
+// does not say otherwise.
+const MaxDigits = 9
 
 // Line returns the line with these words.
 func Line(words ...string) string { return strings.Join(words, " ") + "\n" }
@@ -33,8 +34,21 @@ func (w *Words) Next() (string, bool) {
 
 // Number returns the number that a word of digits alone, without leading zeros,
 // is, and whether it is one.
-func Number(word string) (int, bool) {
-	if word == "" || len(word) > maxDigits || word[0] == '0' && word != "0" {
+func Number(word string) (int, bool) { return numberOf(word, MaxDigits) }
+
+// Integer returns the integer that a word of at most so many digits, without
+// leading zeros, and with or without a minus sign, is, and whether it is one.
+func Integer(word string, digits int) (int, bool) {
+	rest, isNegative := strings.CutPrefix(word, "-")
+	n, isNumber := numberOf(rest, digits)
+	if !isNegative {
+		return n, isNumber
+	}
+	return -n, isNumber && n > 0
+}
+
+func numberOf(word string, digits int) (int, bool) {
+	if word == "" || len(word) > digits || word[0] == '0' && word != "0" {
 		return 0, false
 	}
 	for _, c := range word {

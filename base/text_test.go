@@ -45,3 +45,22 @@ func TestNumber(t *testing.T) {
 		}
 	}
 }
+
+func TestInteger(t *testing.T) {
+	for i, x := range []struct {
+		word   string
+		digits int
+		n      int
+		is     bool
+	}{
+		{"0", 1, 0, true}, {"9", 1, 9, true}, {"-9", 1, -9, true}, {"-1", 9, -1, true}, {"10", 1, 0, false}, {"-10", 1, 0, false},
+		{"999999999", 9, 999999999, true}, {"-999999999", 9, -999999999, true}, {"1000000000", 9, 0, false},
+		{"9999999999", 10, 9999999999, true}, {"-9999999999", 10, -9999999999, true}, {"-10000000000", 10, 0, false},
+		{"", 9, 0, false}, {"-", 9, 0, false}, {"-0", 9, 0, false}, {"--1", 9, 0, false}, {"+1", 9, 0, false},
+		{"00", 9, 0, false}, {"-01", 9, 0, false}, {"1-", 9, 0, false}, {" 1", 9, 0, false}, {"-1x", 9, 0, false}, {"-٣", 9, 0, false},
+	} {
+		if n, is := base.Integer(x.word, x.digits); n != x.n || is != x.is {
+			t.Errorf("Integer %v of %q: got %v, %v", i, x.word, n, is)
+		}
+	}
+}

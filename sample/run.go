@@ -18,43 +18,11 @@ func CheckRun(r Run) api.Errno {
 	if e != api.OK {
 		return e
 	}
-	e = base.FirstError(
+	return base.FirstError(
 		checkSamples(r.Samples...),
 		base.ErrorIf(r.First+n > api.MaxPlace, api.ErrLarge),
-		checkHoles(r.Holes, n),
+		base.CheckHoles(r.Samples, r.Holes),
 	)
-	if e != api.OK {
-		return e
-	}
-	return checkUnknown(r)
-}
-
-// checkHoles returns the error of the first hole with one, or OK.
-func checkHoles(holes []api.Span, samples int) api.Errno {
-	end := -1 // of the hole before: every first one begins above it
-	for _, h := range holes {
-		e := base.FirstError(
-			base.ErrorIf(h.From < 0 || h.From >= h.To || h.To > samples, api.ErrSpan),
-			base.ErrorIf(h.From <= end, api.ErrOrder),
-		)
-		if e != api.OK {
-			return e
-		}
-		end = h.To
-	}
-	return api.OK
-}
-
-// checkUnknown returns ErrForm if a sample in a hole is not 0, or OK.
-func checkUnknown(r Run) api.Errno {
-	for _, h := range r.Holes {
-		for _, x := range r.Samples[h.From:h.To] {
-			if x != 0 {
-				return api.ErrForm
-			}
-		}
-	}
-	return api.OK
 }
 
 // cell is what a run has at a place: the integer of a sample, or nothing known.
@@ -76,22 +44,8 @@ func cellsOf(r Run) []cell {
 // runOf returns the run with these cells.
 func runOf(name string, first int, cells []cell) Run {
 	samples := base.Mapped(cells, func(c cell) float32 { return sampleOf(c.integer) })
-	return Run{Name: name, First: first, Samples: samples, Holes: holesOf(cells)}
-}
-
-// holesOf returns the longest spans of cells of which nothing is known.
-func holesOf(cells []cell) []api.Span {
-	var holes []api.Span
-	for i, c := range cells {
-		switch {
-		case c.known:
-		case i > 0 && !cells[i-1].known:
-			holes[len(holes)-1].To = i + 1
-		default:
-			holes = append(holes, api.Span{From: i, To: i + 1})
-		}
-	}
-	return holes
+	known := base.Mapped(cells, func(c cell) bool { return c.known })
+	return Run{Name: name, First: first, Samples: samples, Holes: base.HolesOf(known)}
 }
 
 // areSamples reports whether all integers of cells are those of samples.

@@ -88,7 +88,7 @@ func readSamples(t *text, next reader) bool {
 		if !more {
 			break
 		}
-		n, is := integerIn(word)
+		n, is := base.Integer(word, base.MaxDigits)
 		if !is {
 			return false
 		}
@@ -108,17 +108,7 @@ func readHole(t *text, next reader) bool {
 // readInteger reads a word, and reports whether it is an integer.
 func readInteger(next reader) (int, bool) {
 	word, _ := next()
-	return integerIn(word)
-}
-
-// integerIn returns the integer that a word is, and whether it is one.
-func integerIn(word string) (int, bool) {
-	digits, isNegative := strings.CutPrefix(word, "-")
-	n, isNumber := base.Number(digits)
-	if !isNegative {
-		return n, isNumber
-	}
-	return -n, isNumber && n > 0
+	return base.Integer(word, base.MaxDigits)
 }
 
 // readText returns what lines say, and the index of the first one with an error,
