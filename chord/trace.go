@@ -8,15 +8,12 @@ import (
 	"versine/sample"
 )
 
-// grain is how many steps of a sample are 1.
-const grain = 16
-
 // Traced returns the trace of a run.
 func Traced(r sample.Run) (Trace, api.Errno) {
 	if e := sample.CheckRun(r); e != api.OK {
 		return Trace{}, e
 	}
-	values := base.Mapped(r.Samples, func(x float32) int { return int(grain * x) })
+	values := base.Mapped(r.Samples, base.IntegerOf)
 	return Trace{First: r.First, Values: values, Holes: slices.Clone(r.Holes)}, api.OK
 }
 

@@ -8,10 +8,6 @@ import (
 )
 
 const (
-	// grain is how many steps of a sample are 1.
-	grain = 16
-	// maxInteger is the greatest integer of a sample.
-	maxInteger = grain * api.MaxValue
 	// drawFactor and drawModulus generate the exchanges of the permutation.
 	drawFactor  = 742938285
 	drawModulus = 2147483647
@@ -55,16 +51,7 @@ func CheckRatio(x api.Ratio) api.Errno {
 	if e := base.FirstError(base.CheckBetween(x.Num, -api.MaxNumber, api.MaxNumber), base.CheckBetween(x.Den, 1, api.MaxNumber)); e != api.OK {
 		return e
 	}
-	return base.ErrorIf(commonDivisor(x.Num, x.Den) != 1, api.ErrForm)
-}
-
-// commonDivisor returns the greatest common divisor of any number and one above 0.
-func commonDivisor(a, b int) int {
-	a = max(a, -a)
-	for a != 0 {
-		a, b = b%a, a
-	}
-	return b
+	return base.ErrorIf(base.CommonDivisor(x.Num, x.Den) != 1, api.ErrForm)
 }
 
 // CheckSample returns the first error of a sample, or OK.
@@ -86,22 +73,6 @@ func isFinite(x float32) bool {
 
 // isStep reports whether a finite number is a multiple of 1/16 from -most to most.
 func isStep(x float32, most int) bool {
-	n := grain * float64(x) // exact: a float64 has room for each float32, times 16
-	return math.Abs(n) <= float64(grain*most) && n == math.Trunc(n)
-}
-
-// integerOf returns the integer of a sample.
-func integerOf(x float32) int { return int(grain * x) }
-
-// sampleOf returns the sample with an integer; it is never -0.
-func sampleOf(integer int) float32 { return float32(integer) / grain }
-
-// rounded returns a quotient with a denominator above 0, rounded to the nearest
-// integer, from the middle to the greater one.
-func rounded(num, den int) int {
-	num, den = 2*num+den, 2*den
-	if num < 0 { // Go's division goes towards 0, this one downwards
-		return -((den - 1 - num) / den)
-	}
-	return num / den
+	n := base.Grain * float64(x) // exact: a float64 has room for each float32, times 16
+	return math.Abs(n) <= float64(base.Grain*most) && n == math.Trunc(n)
 }

@@ -34,7 +34,7 @@ type cell struct {
 
 // cellsOf returns the cells of a run without an error.
 func cellsOf(r Run) []cell {
-	cells := base.Mapped(r.Samples, func(x float32) cell { return cell{integerOf(x), true} })
+	cells := base.Mapped(r.Samples, func(x float32) cell { return cell{base.IntegerOf(x), true} })
 	for _, h := range r.Holes {
 		clear(cells[h.From:h.To])
 	}
@@ -43,7 +43,7 @@ func cellsOf(r Run) []cell {
 
 // runOf returns the run with these cells.
 func runOf(name string, first int, cells []cell) Run {
-	samples := base.Mapped(cells, func(c cell) float32 { return sampleOf(c.integer) })
+	samples := base.Mapped(cells, func(c cell) float32 { return base.SampleOf(c.integer) })
 	known := base.Mapped(cells, func(c cell) bool { return c.known })
 	return Run{Name: name, First: first, Samples: samples, Holes: base.HolesOf(known)}
 }
@@ -51,7 +51,7 @@ func runOf(name string, first int, cells []cell) Run {
 // areSamples reports whether all integers of cells are those of samples.
 func areSamples(cells []cell) bool {
 	return !slices.ContainsFunc(cells, func(c cell) bool {
-		return c.integer < -maxInteger || c.integer > maxInteger
+		return !base.IsOfSample(c.integer)
 	})
 }
 
@@ -67,7 +67,7 @@ func At(r Run, place int) (float32, bool, api.Errno) {
 		return 0, false, api.ErrUnknown
 	}
 	c := cellsOf(r)[place-r.First]
-	return sampleOf(c.integer), c.known, api.OK
+	return base.SampleOf(c.integer), c.known, api.OK
 }
 
 // Known returns the number of known samples.
@@ -158,7 +158,7 @@ func Scaled(r Run, num, den int) (Run, api.Errno) {
 		return Run{}, e
 	}
 	cells := base.Mapped(cellsOf(r), func(c cell) cell {
-		return cell{rounded(c.integer*num, den), c.known}
+		return cell{base.Rounded(c.integer*num, den), c.known}
 	})
 	if !areSamples(cells) {
 		return Run{}, api.ErrLarge
@@ -203,7 +203,7 @@ func Filled(r Run, most int) (Run, api.Errno) {
 func fill(cells []cell, before, after int) {
 	steps := len(cells) + 1
 	for i := range cells {
-		cells[i] = cell{rounded(before*steps+(after-before)*(i+1), steps), true}
+		cells[i] = cell{base.Rounded(before*steps+(after-before)*(i+1), steps), true}
 	}
 }
 
@@ -228,10 +228,9 @@ func Mean(r Run) (api.Ratio, api.Errno) {
 	if len(known) == 0 {
 		return api.Ratio{}, api.ErrNone
 	}
-	sum, den := 0, grain*len(known)
+	sum, den := 0, base.Grain*len(known)
 	for _, n := range known {
 		sum += n
 	}
-	d := commonDivisor(sum, den)
-	return api.Ratio{Num: sum / d, Den: den / d}, api.OK
+	return base.Ratio(sum, den), api.OK
 }

@@ -38,7 +38,7 @@ func samplesLine(l []float32) string {
 	if len(l) == 0 {
 		return ""
 	}
-	integers := base.Mapped(l, func(x float32) string { return strconv.Itoa(integerOf(x)) })
+	integers := base.Mapped(l, func(x float32) string { return strconv.Itoa(base.IntegerOf(x)) })
 	return base.Line(samplesWord, strings.Join(integers, " "))
 }
 
@@ -136,9 +136,7 @@ func (t text) check() api.Errno {
 	samples, isLarge := 0, false
 	for _, l := range t.rows {
 		samples += l.hole + len(l.integers)
-		isLarge = isLarge || slices.ContainsFunc(l.integers, func(n int) bool {
-			return n < -maxInteger || n > maxInteger
-		})
+		isLarge = isLarge || slices.ContainsFunc(l.integers, func(n int) bool { return !base.IsOfSample(n) })
 	}
 	return base.FirstError(base.ErrorIf(samples > api.MaxSamples, api.ErrMany), base.ErrorIf(isLarge, api.ErrLarge))
 }

@@ -18,7 +18,7 @@ func Voted(l [3]Run, limit float32) (Run, [3]int, api.Errno) {
 	if e != api.OK {
 		return Run{}, [3]int{}, e
 	}
-	most := integerOf(limit)
+	most := base.IntegerOf(limit)
 	rows := [3][]cell{cellsOf(l[0]), cellsOf(l[1]), cellsOf(l[2])}
 	votes := make([]cell, len(rows[0]))
 	var wrong [3]int
@@ -41,7 +41,7 @@ func vote(most int, l ...cell) cell {
 	case len(known) == 3 && min(known[1]-known[0], known[2]-known[1]) <= most:
 		return cell{known[1], true}
 	case len(known) == 2 && known[1]-known[0] <= most:
-		return cell{rounded(known[0]+known[1], 2), true}
+		return cell{base.Rounded(known[0]+known[1], 2), true}
 	}
 	return cell{}
 }
