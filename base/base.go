@@ -1,5 +1,5 @@
 // Package base has what several layers use beside api: first errors, lists,
-// integers of samples, and the words of texts.
+// holes, integers of samples, and the lines and words of texts.
 package base
 
 import (

@@ -1,6 +1,8 @@
 package base
 
 import (
+	"slices"
+
 	"versine/api"
 )
 
@@ -33,13 +35,28 @@ func CheckHoles[T comparable](values []T, holes []api.Span) api.Errno {
 func HolesOf(known []bool) []api.Span {
 	var holes []api.Span
 	for i, is := range known {
-		switch {
-		case is:
-		case i > 0 && !known[i-1]:
-			holes[len(holes)-1].To = i + 1
-		default:
-			holes = append(holes, api.Span{From: i, To: i + 1})
+		if !is {
+			holes = Extended(holes, i)
 		}
 	}
 	return holes
+}
+
+// Extended appends an index, or a place, to ascending spans that end up to it: to the
+// last one if both touch.
+func Extended(spans []api.Span, index int) []api.Span {
+	if k := len(spans) - 1; k >= 0 && spans[k].To == index {
+		spans[k].To++
+		return spans
+	}
+	return append(spans, api.Span{From: index, To: index + 1})
+}
+
+// KnownOf returns which of n values are in none of their holes.
+func KnownOf(n int, holes []api.Span) []bool {
+	known := slices.Repeat([]bool{true}, n)
+	for _, h := range holes {
+		clear(known[h.From:h.To])
+	}
+	return known
 }

@@ -66,3 +66,32 @@ func TestHolesOf(t *testing.T) {
 		}
 	}
 }
+
+// TestKnownOf checks that HolesOf and KnownOf undo each other.
+func TestKnownOf(t *testing.T) {
+	for mask := range 1 << 7 {
+		var known []bool
+		for i := range 7 {
+			known = append(known, mask>>i&1 == 1)
+		}
+		if got := base.KnownOf(7, base.HolesOf(known)); !slices.Equal(got, known) {
+			t.Errorf("KnownOf the holes of %v: got %v", known, got)
+		}
+	}
+	if got := base.KnownOf(4, holes(1, 2, 3, 4)); !slices.Equal(got, []bool{true, false, true, false}) {
+		t.Errorf("KnownOf: got %v", got)
+	}
+	if got := base.KnownOf(0, nil); len(got) != 0 {
+		t.Errorf("KnownOf nothing: got %v", got)
+	}
+}
+
+func TestExtended(t *testing.T) {
+	var spans []api.Span
+	for _, i := range []int{3, 4, 7, 9, 10, 11} {
+		spans = base.Extended(spans, i)
+	}
+	if !slices.Equal(spans, holes(3, 5, 7, 8, 9, 12)) {
+		t.Errorf("Extended: got %v", spans)
+	}
+}

@@ -1,8 +1,11 @@
 package base
 
 import (
+	"slices"
 	"strconv"
 	"strings"
+
+	"versine/api"
 )
 
 // MaxDigits is how many digits a number of a text may have, where its chapter
@@ -30,6 +33,46 @@ func (w *Words) Next() (string, bool) {
 	word, rest, more := strings.Cut(w.rest, " ")
 	w.rest, w.over = rest, !more
 	return word, true
+}
+
+// ParseText returns what a text of at most so many bytes says, or the index of the
+// first line that is wrong, or the number of lines where the error is not one of a
+// line. What lines say is read first, up to the index of the first one that is wrong,
+// or to their number; then it is checked.
+func ParseText[T any](s string, most int, read func(lines []string) (T, int), check func(x T) api.Errno) (T, int, api.Errno) {
+	var nothing T
+	if len(s) > most {
+		return nothing, 0, api.ErrLong
+	}
+	lines := slices.Collect(strings.Lines(s))
+	x, right := read(lines)
+	if right < len(lines) {
+		return nothing, right, api.ErrSyntax
+	}
+	if e := check(x); e != api.OK {
+		return nothing, len(lines), e
+	}
+	return x, 0, api.OK
+}
+
+// Field is how a word of a line is read, and whether it has the form of such a word.
+type Field struct {
+	Read func(word string) bool
+}
+
+// ReadLine reads the words of a line, one for each field, and reports whether it has
+// these words alone, and a line feed at its end.
+func ReadLine(line string, fields ...Field) bool {
+	words, isRight := strings.CutSuffix(line, "\n")
+	next := WordsOf(words).Next
+	for _, f := range fields {
+		word, isThere := next()
+		if !isThere || !f.Read(word) {
+			return false
+		}
+	}
+	_, more := next()
+	return isRight && !more
 }
 
 // Number returns the number that a word of digits alone, without leading zeros,

@@ -2,8 +2,10 @@ package base_test
 
 import (
 	"slices"
+	"strings"
 	"testing"
 
+	"versine/api"
 	"versine/base"
 )
 
@@ -61,6 +63,70 @@ func TestInteger(t *testing.T) {
 	} {
 		if n, is := base.Integer(x.word, x.digits); n != x.n || is != x.is {
 			t.Errorf("Integer %v of %q: got %v, %v", i, x.word, n, is)
+		}
+	}
+}
+
+func TestReadLine(t *testing.T) {
+	for line, is := range map[string]bool{
+		"a bc\n": true, "bc a\n": true, "a bc": false, "a bc \n": false, "a bc d\n": false, "a\n": false, "a \n": false, " a\n": false,
+		"a  bc\n": false, "\n": false, "": false, "\xff a\n": true, "a bc\r\n": true,
+	} {
+		var got []string
+		read := func(word string) bool {
+			got = append(got, word)
+			return word != ""
+		}
+		if base.ReadLine(line, base.Field{Read: read}, base.Field{Read: read}) != is {
+			t.Errorf("ReadLine of %q: got %v", line, !is)
+		}
+		if words := strings.Split(strings.TrimSuffix(line, "\n"), " "); is && !slices.Equal(got, words) {
+			t.Errorf("the words of %q: got %q", line, got)
+		}
+	}
+	if !base.ReadLine("x\n", base.Field{Read: func(word string) bool { return word == "x" }}) {
+		t.Error("ReadLine of one word: got false")
+	}
+	if base.ReadLine("x y\n", base.Field{Read: func(word string) bool { return true }}, base.Field{Read: func(word string) bool { return word == "x" }}) {
+		t.Error("ReadLine of a word without its form: got true")
+	}
+	if base.ReadLine("x y\n", base.Field{Read: func(word string) bool { return false }}, base.Field{Read: func(word string) bool { return true }}) {
+		t.Error("ReadLine of a first word without its form: got true")
+	}
+	if base.ReadLine("x\n", base.Field{Read: func(word string) bool { return true }}, base.Field{Read: func(word string) bool { return word == "" }}) {
+		t.Error("ReadLine of a missing word: got true")
+	}
+}
+
+func TestParseText(t *testing.T) {
+	read := func(lines []string) (string, int) {
+		k := slices.Index(lines, "wrong\n")
+		if k < 0 {
+			k = len(lines)
+		}
+		return strings.Join(lines, "|"), k
+	}
+	check := func(x string) api.Errno { return base.ErrorIf(strings.Contains(x, "bad"), api.ErrConflict) }
+	for i, x := range []struct {
+		s    string
+		text string
+		line int
+		e    api.Errno
+	}{
+		{"", "", 0, api.OK},
+		{"a\nb", "a\n|b", 0, api.OK},
+		{"a\n\nb\n", "a\n|\n|b\n", 0, api.OK},
+		{"a\nwrong\nbad\n", "", 1, api.ErrSyntax},
+		{"a\nbad\nb", "", 3, api.ErrConflict},
+		{"wrong\n78901234567", "", 0, api.ErrLong},
+		{"bad\n5678901234567", "", 0, api.ErrLong},
+		{"wrong\n7890123456", "", 0, api.ErrSyntax},
+		{"bad\n567890123456", "", 2, api.ErrConflict},
+		{"1234567890123456", "1234567890123456", 0, api.OK},
+	} {
+		text, line, e := base.ParseText(x.s, 16, read, check)
+		if text != x.text || line != x.line || e != x.e {
+			t.Errorf("ParseText %v: got %q, %v, %v, want %q, %v, %v", i, text, line, e, x.text, x.line, x.e)
 		}
 	}
 }

@@ -39,12 +39,7 @@ type row struct {
 func rowOf(t Trace) row {
 	r := newRow(t.First, len(t.Values))
 	copy(r.Values, t.Values)
-	for i := range r.known {
-		r.known[i] = true
-	}
-	for _, h := range t.Holes {
-		clear(r.known[h.From:h.To])
-	}
+	r.known = base.KnownOf(len(t.Values), t.Holes)
 	return r
 }
 

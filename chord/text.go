@@ -1,7 +1,6 @@
 package chord
 
 import (
-	"slices"
 	"strconv"
 	"strings"
 
@@ -116,19 +115,16 @@ func readText(lines []string) (text, int) {
 	return t, len(lines)
 }
 
+// check returns the first error of a text and of its trace, or OK.
+func (t text) check() api.Errno {
+	return base.FirstError(base.ErrorIf(len(t.Values) != t.count, api.ErrShape), CheckTrace(t.trace()))
+}
+
 // Parse returns the trace of a text, and the index of the first line that is wrong.
 func Parse(s string) (Trace, int, api.Errno) {
-	if len(s) > api.MaxLog {
-		return Trace{}, 0, api.ErrLong
+	if s == "" {
+		return Trace{}, 0, api.ErrSyntax
 	}
-	lines := slices.Collect(strings.Lines(s))
-	t, right := readText(lines)
-	if len(lines) == 0 || right < len(lines) {
-		return Trace{}, right, api.ErrSyntax
-	}
-	parsed := t.trace()
-	if e := base.FirstError(base.ErrorIf(len(t.Values) != t.count, api.ErrShape), CheckTrace(parsed)); e != api.OK {
-		return Trace{}, len(lines), e
-	}
-	return parsed, 0, api.OK
+	t, line, e := base.ParseText(s, api.MaxLog, readText, text.check)
+	return t.trace(), line, e
 }

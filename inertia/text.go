@@ -1,7 +1,6 @@
 package inertia
 
 import (
-	"slices"
 	"strconv"
 	"strings"
 
@@ -59,29 +58,24 @@ func (x entry) checkOffset() api.Errno {
 	return base.ErrorIf(!base.IsOfSample(x.integer), api.ErrRange)
 }
 
-// field is how a word of a line is set, and whether it has the form of such a word.
-type field struct {
-	set func(word string) bool
-}
-
-// fields returns the fields of a line, by which its words are set in the entry.
-func (x *entry) fields() [5]field {
-	return [5]field{
-		{func(word string) bool { return word == channelWord }},
-		{x.setName},
-		{setter(&x.integer)},
-		{setter(&x.Num)},
-		{setter(&x.Den)},
+// form returns the form of a line, by which its words are read into the entry.
+func (x *entry) form() [5]base.Field {
+	return [5]base.Field{
+		{Read: func(word string) bool { return word == channelWord }},
+		{Read: x.readName},
+		{Read: reader(&x.integer)},
+		{Read: reader(&x.Num)},
+		{Read: reader(&x.Den)},
 	}
 }
 
-func (x *entry) setName(word string) bool {
+func (x *entry) readName(word string) bool {
 	x.Name = word
 	return word != ""
 }
 
-// setter returns how a word is set in an integer.
-func setter(to *int) func(word string) bool {
+// reader returns how a word is read into an integer.
+func reader(to *int) func(word string) bool {
 	return func(word string) bool {
 		n, isInteger := base.Integer(word, base.MaxDigits)
 		*to = n
@@ -89,38 +83,30 @@ func setter(to *int) func(word string) bool {
 	}
 }
 
-// entryOf returns what a line says, and whether it has the form of a line.
-func entryOf(line string) (entry, bool) {
-	words, isRight := strings.CutSuffix(line, "\n")
-	next := base.WordsOf(words).Next
-	var x entry
-	for _, f := range x.fields() {
-		word, _ := next()
-		if !f.set(word) {
-			isRight = false
+// readText returns what lines say, and the index of the first one with an error, or
+// their number if there is none.
+func readText(lines []string) ([]entry, int) {
+	entries := make([]entry, len(lines))
+	for i, line := range lines {
+		form := entries[i].form()
+		if !base.ReadLine(line, form[:]...) {
+			return nil, i
 		}
 	}
-	_, more := next()
-	return x, isRight && !more
+	return entries, len(lines)
+}
+
+// channelsOf returns the channels of entries.
+func channelsOf(entries []entry) []Channel { return base.Mapped(entries, entry.channel) }
+
+// checkEntries returns the first error of an offset, then of the channels of entries,
+// or OK.
+func checkEntries(entries []entry) api.Errno {
+	return base.FirstError(base.CheckEach(entries, entry.checkOffset), checkChannels(channelsOf(entries)))
 }
 
 // Parse returns the channels of a text, and the index of the first line that is wrong.
 func Parse(s string) ([]Channel, int, api.Errno) {
-	if len(s) > api.MaxText {
-		return nil, 0, api.ErrLong
-	}
-	lines := slices.Collect(strings.Lines(s))
-	entries := make([]entry, len(lines))
-	for i, line := range lines {
-		x, isRight := entryOf(line)
-		if !isRight {
-			return nil, i, api.ErrSyntax
-		}
-		entries[i] = x
-	}
-	channels := base.Mapped(entries, entry.channel)
-	if e := base.FirstError(base.CheckEach(entries, entry.checkOffset), checkChannels(channels)); e != api.OK {
-		return nil, len(lines), e
-	}
-	return channels, 0, api.OK
+	entries, line, e := base.ParseText(s, api.MaxText, readText, checkEntries)
+	return channelsOf(entries), line, e
 }

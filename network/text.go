@@ -164,16 +164,5 @@ func readText(lines []string) (Network, int) {
 
 // Parse returns the network with a text, or the index of the first line that is wrong.
 func Parse(s string) (Network, int, api.Errno) {
-	if len(s) > api.MaxText {
-		return Network{}, 0, api.ErrLong
-	}
-	lines := slices.Collect(strings.Lines(s))
-	n, right := readText(lines)
-	if right < len(lines) {
-		return Network{}, right, api.ErrSyntax
-	}
-	if e := CheckNetwork(n); e != api.OK {
-		return Network{}, len(lines), e
-	}
-	return n, 0, api.OK
+	return base.ParseText(s, api.MaxText, readText, CheckNetwork)
 }

@@ -131,8 +131,8 @@ func readText(lines []string) (text, int) {
 	return t, len(lines)
 }
 
-// check returns the first error of the number and the integers of samples, or OK.
-func (t text) check() api.Errno {
+// checkSamples returns the first error of the number and the integers of samples, or OK.
+func (t text) checkSamples() api.Errno {
 	samples, isLarge := 0, false
 	for _, l := range t.rows {
 		samples += l.hole + len(l.integers)
@@ -141,7 +141,7 @@ func (t text) check() api.Errno {
 	return base.FirstError(base.ErrorIf(samples > api.MaxSamples, api.ErrMany), base.ErrorIf(isLarge, api.ErrLarge))
 }
 
-// run returns the run of a text without an error of check.
+// run returns the run of a text without an error of its samples.
 func (t text) run() Run {
 	var cells []cell
 	for _, l := range t.rows {
@@ -151,22 +151,19 @@ func (t text) run() Run {
 	return runOf(t.name, t.first, cells)
 }
 
+// check returns the first error of a text and of its run, or OK.
+func (t text) check() api.Errno {
+	if e := t.checkSamples(); e != api.OK {
+		return e
+	}
+	return CheckRun(t.run())
+}
+
 // Parse returns the run of a text, and the index of the first line that is wrong.
 func Parse(s string) (Run, int, api.Errno) {
-	if len(s) > api.MaxLog {
-		return Run{}, 0, api.ErrLong
+	if s == "" {
+		return Run{}, 0, api.ErrSyntax
 	}
-	lines := slices.Collect(strings.Lines(s))
-	t, right := readText(lines)
-	if len(lines) == 0 || right < len(lines) {
-		return Run{}, right, api.ErrSyntax
-	}
-	if e := t.check(); e != api.OK {
-		return Run{}, len(lines), e
-	}
-	r := t.run()
-	if e := CheckRun(r); e != api.OK {
-		return Run{}, len(lines), e
-	}
-	return r, 0, api.OK
+	t, line, e := base.ParseText(s, api.MaxLog, readText, text.check)
+	return t.run(), line, e
 }
