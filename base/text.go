@@ -75,6 +75,21 @@ func ReadLine(line string, fields ...Field) bool {
 	return isRight && !more
 }
 
+// WordField returns the field that is one word.
+func WordField(word string) Field {
+	return Field{func(s string) bool { return s == word }}
+}
+
+// IntegerField returns the field that is an integer of at most MaxDigits digits, which
+// is read into a variable.
+func IntegerField(to *int) Field {
+	return Field{func(word string) bool {
+		n, isInteger := Integer(word, MaxDigits)
+		*to = n
+		return isInteger
+	}}
+}
+
 // Number returns the number that a word of digits alone, without leading zeros,
 // is, and whether it is one.
 func Number(word string) (int, bool) { return numberOf(word, MaxDigits) }

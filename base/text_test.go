@@ -2,6 +2,7 @@ package base_test
 
 import (
 	"slices"
+	"strconv"
 	"strings"
 	"testing"
 
@@ -95,6 +96,21 @@ func TestReadLine(t *testing.T) {
 	}
 	if base.ReadLine("x\n", base.Field{Read: func(word string) bool { return true }}, base.Field{Read: func(word string) bool { return word == "" }}) {
 		t.Error("ReadLine of a missing word: got true")
+	}
+}
+
+func TestFields(t *testing.T) {
+	for line, is := range map[string]bool{
+		"at 7\n": true, "at -999999999\n": true, "at 0\n": true, "at 1000000000\n": false, "at -0\n": false, "at 07\n": false, "at x\n": false, "at \n": false,
+		"a 7\n": false, "At 7\n": false, " 7\n": false, "7 at\n": false,
+	} {
+		n := 5
+		if base.ReadLine(line, base.WordField("at"), base.IntegerField(&n)) != is {
+			t.Errorf("ReadLine of %q: got %v", line, !is)
+		}
+		if is && line != "at "+strconv.Itoa(n)+"\n" {
+			t.Errorf("the integer of %q: got %v", line, n)
+		}
 	}
 }
 

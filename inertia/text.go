@@ -61,26 +61,17 @@ func (x entry) checkOffset() api.Errno {
 // form returns the form of a line, by which its words are read into the entry.
 func (x *entry) form() [5]base.Field {
 	return [5]base.Field{
-		{Read: func(word string) bool { return word == channelWord }},
+		base.WordField(channelWord),
 		{Read: x.readName},
-		{Read: reader(&x.integer)},
-		{Read: reader(&x.Num)},
-		{Read: reader(&x.Den)},
+		base.IntegerField(&x.integer),
+		base.IntegerField(&x.Num),
+		base.IntegerField(&x.Den),
 	}
 }
 
 func (x *entry) readName(word string) bool {
 	x.Name = word
 	return word != ""
-}
-
-// reader returns how a word is read into an integer.
-func reader(to *int) func(word string) bool {
-	return func(word string) bool {
-		n, isInteger := base.Integer(word, base.MaxDigits)
-		*to = n
-		return isInteger
-	}
 }
 
 // readText returns what lines say, and the index of the first one with an error, or
