@@ -80,6 +80,25 @@ func WordField(word string) Field {
 	return Field{func(s string) bool { return s == word }}
 }
 
+// TextField returns the field that is any word of at least one byte, which is read into
+// a variable.
+func TextField(to *string) Field {
+	return Field{func(word string) bool {
+		*to = word
+		return word != ""
+	}}
+}
+
+// NumberField returns the field that is a number of at most MaxDigits digits, which is
+// read into a variable.
+func NumberField(to *int) Field {
+	return Field{func(word string) bool {
+		n, isNumber := Number(word)
+		*to = n
+		return isNumber
+	}}
+}
+
 // IntegerField returns the field that is an integer of at most MaxDigits digits, which
 // is read into a variable.
 func IntegerField(to *int) Field {

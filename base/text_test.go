@@ -99,6 +99,22 @@ func TestReadLine(t *testing.T) {
 	}
 }
 
+// TestFieldsOfNumbersAndTexts checks the words that both fields have, and what they read.
+func TestFieldsOfNumbersAndTexts(t *testing.T) {
+	for line, is := range map[string]bool{
+		"7 a\n": true, "0 0\n": true, "999999999 -\n": true, "10 \xff\n": true, "1000000000 a\n": false, "-7 a\n": false, "-0 a\n": false,
+		"07 a\n": false, "x a\n": false, " a\n": false, "7 \n": false, "7\n": false, "7 a": false, "7 a b\n": false, "a 7\n": false,
+	} {
+		n, s := 5, "none"
+		if base.ReadLine(line, base.NumberField(&n), base.TextField(&s)) != is {
+			t.Errorf("ReadLine of %q: got %v", line, !is)
+		}
+		if is && line != strconv.Itoa(n)+" "+s+"\n" {
+			t.Errorf("what is read of %q: got %v, %q", line, n, s)
+		}
+	}
+}
+
 func TestFields(t *testing.T) {
 	for line, is := range map[string]bool{
 		"at 7\n": true, "at -999999999\n": true, "at 0\n": true, "at 1000000000\n": false, "at -0\n": false, "at 07\n": false, "at x\n": false, "at \n": false,

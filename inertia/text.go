@@ -62,16 +62,11 @@ func (x entry) checkOffset() api.Errno {
 func (x *entry) form() [5]base.Field {
 	return [5]base.Field{
 		base.WordField(channelWord),
-		{Read: x.readName},
+		base.TextField(&x.Name),
 		base.IntegerField(&x.integer),
 		base.IntegerField(&x.Num),
 		base.IntegerField(&x.Den),
 	}
-}
-
-func (x *entry) readName(word string) bool {
-	x.Name = word
-	return word != ""
 }
 
 // readText returns what lines say, and the index of the first one with an error, or
