@@ -49,3 +49,18 @@ func Mapped[T, U any](l []T, f func(T) U) []U {
 	}
 	return out
 }
+
+// CheckNamed returns ErrMany for more than so many elements, then the error of the first
+// element with one: its own, or ErrTwice if one before has its name. Or it returns OK.
+func CheckNamed[T any](l []T, most int, check func(T) api.Errno, nameOf func(T) string) api.Errno {
+	if len(l) > most {
+		return api.ErrMany
+	}
+	names := map[string]bool{}
+	return CheckEach(l, func(x T) api.Errno {
+		name := nameOf(x)
+		e := FirstError(check(x), ErrorIf(names[name], api.ErrTwice))
+		names[name] = true
+		return e
+	})
+}

@@ -2,6 +2,7 @@ package base_test
 
 import (
 	"slices"
+	"strings"
 	"testing"
 
 	"versine/api"
@@ -47,6 +48,28 @@ func TestCheckEach(t *testing.T) {
 	}
 	if e := base.CheckEach(nil, check); e != api.OK {
 		t.Errorf("CheckEach of nothing: got %v", e)
+	}
+}
+
+// TestCheckNamed checks it of names, of which the empty one has an error of its own.
+func TestCheckNamed(t *testing.T) {
+	check := func(name string) api.Errno { return base.ErrorIf(name == "", api.ErrName) }
+	for i, x := range []struct {
+		names []string
+		e     api.Errno
+	}{
+		{nil, api.OK},
+		{[]string{"a", "b", "A"}, api.OK},
+		{[]string{"a", "b", "c", "d"}, api.ErrMany},
+		{[]string{"", "", "", ""}, api.ErrMany},
+		{[]string{"a", "b", "a"}, api.ErrTwice},
+		{[]string{"a", "a", ""}, api.ErrTwice},
+		{[]string{"", "a", "a"}, api.ErrName},
+		{[]string{"a", "", ""}, api.ErrName},
+	} {
+		if e := base.CheckNamed(x.names, 3, check, strings.Clone); e != x.e {
+			t.Errorf("CheckNamed %v: got %v, want %v", i, e, x.e)
+		}
 	}
 }
 

@@ -13,17 +13,7 @@ const channelWord = "channel"
 
 // checkChannels returns the first error of channels, or OK.
 func checkChannels(l []Channel) api.Errno {
-	if len(l) > api.MaxList {
-		return api.ErrMany
-	}
-	names := map[string]bool{}
-	for _, c := range l {
-		if e := base.FirstError(CheckChannel(c), base.ErrorIf(names[c.Name], api.ErrTwice)); e != api.OK {
-			return e
-		}
-		names[c.Name] = true
-	}
-	return api.OK
+	return base.CheckNamed(l, api.MaxList, CheckChannel, func(c Channel) string { return c.Name })
 }
 
 // Print returns the text of channels.
