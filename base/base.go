@@ -31,6 +31,16 @@ func CheckBetween(n, least, most int) api.Errno {
 	return ErrorIf(n < least || n > most, api.ErrRange)
 }
 
+// CheckInterval returns ErrRange if an end of an interval is not from least to most, then
+// ErrOrder if it ends before it begins, or OK.
+func CheckInterval(x api.Interval, least, most int) api.Errno {
+	return FirstError(
+		CheckBetween(x.Low, least, most),
+		CheckBetween(x.High, least, most),
+		ErrorIf(x.Low > x.High, api.ErrOrder),
+	)
+}
+
 // CheckEach returns the error of the first element with one, or OK.
 func CheckEach[T any](l []T, check func(T) api.Errno) api.Errno {
 	for _, x := range l {
@@ -50,17 +60,24 @@ func Mapped[T, U any](l []T, f func(T) U) []U {
 	return out
 }
 
+// Names is the names of a list that were seen.
+type Names map[string]bool
+
+// CheckNext returns ErrTwice for a name that was seen; from then on it was.
+func (n Names) CheckNext(name string) api.Errno {
+	e := ErrorIf(n[name], api.ErrTwice)
+	n[name] = true
+	return e
+}
+
 // CheckNamed returns ErrMany for more than so many elements, then the error of the first
 // element with one: its own, or ErrTwice if one before has its name. Or it returns OK.
 func CheckNamed[T any](l []T, most int, check func(T) api.Errno, nameOf func(T) string) api.Errno {
 	if len(l) > most {
 		return api.ErrMany
 	}
-	names := map[string]bool{}
+	names := Names{}
 	return CheckEach(l, func(x T) api.Errno {
-		name := nameOf(x)
-		e := FirstError(check(x), ErrorIf(names[name], api.ErrTwice))
-		names[name] = true
-		return e
+		return FirstError(check(x), names.CheckNext(nameOf(x)))
 	})
 }

@@ -36,6 +36,21 @@ func TestCheckBetween(t *testing.T) {
 	}
 }
 
+func TestCheckInterval(t *testing.T) {
+	for i, x := range []struct {
+		low, high int
+		e         api.Errno
+	}{
+		{-3, 2, api.OK}, {0, 0, api.OK}, {-3, -3, api.OK}, {2, 2, api.OK},
+		{-4, 2, api.ErrRange}, {-3, 3, api.ErrRange}, {3, -4, api.ErrRange}, {3, 2, api.ErrRange}, {1, -4, api.ErrRange},
+		{2, -3, api.ErrOrder}, {1, 0, api.ErrOrder},
+	} {
+		if e := base.CheckInterval(api.Interval{Low: x.low, High: x.high}, -3, 2); e != x.e {
+			t.Errorf("CheckInterval %v: got %v, want %v", i, e, x.e)
+		}
+	}
+}
+
 // TestCheckEach checks that nothing behind the first error is examined.
 func TestCheckEach(t *testing.T) {
 	var examined []int
@@ -48,6 +63,21 @@ func TestCheckEach(t *testing.T) {
 	}
 	if e := base.CheckEach(nil, check); e != api.OK {
 		t.Errorf("CheckEach of nothing: got %v", e)
+	}
+}
+
+// TestCheckNext checks that a name that was seen twice is seen a third time, too.
+func TestCheckNext(t *testing.T) {
+	seen, other := base.Names{}, base.Names{}
+	var errors []api.Errno
+	for _, name := range []string{"a", "", "a", "A", "", "a"} {
+		errors = append(errors, seen.CheckNext(name))
+	}
+	if wanted := []api.Errno{api.OK, api.OK, api.ErrTwice, api.OK, api.ErrTwice, api.ErrTwice}; !slices.Equal(errors, wanted) {
+		t.Errorf("CheckNext: got %v, want %v", errors, wanted)
+	}
+	if e := other.CheckNext("a"); e != api.OK {
+		t.Errorf("CheckNext of others: got %v", e)
 	}
 }
 

@@ -30,6 +30,9 @@ func Rounded(num, den int) int {
 	return num / den
 }
 
+// RoundedUp returns a quotient that is not below 0, with a denominator above 0, rounded up.
+func RoundedUp(num, den int) int { return (num + den - 1) / den }
+
 // CommonDivisor returns the greatest common divisor of any number and one above 0.
 func CommonDivisor(a, b int) int {
 	a = max(a, -a)

@@ -42,6 +42,16 @@ func TestRounded(t *testing.T) {
 	}
 }
 
+func TestRoundedUp(t *testing.T) {
+	for den := 1; den <= 12; den++ {
+		for num := range 61 {
+			if n := base.RoundedUp(num, den); n*den < num || n*den >= num+den {
+				t.Errorf("RoundedUp of %v and %v: got %v", num, den, n)
+			}
+		}
+	}
+}
+
 func TestRatio(t *testing.T) {
 	for den := 1; den <= 24; den++ {
 		for num := -48; num <= 48; num++ {

@@ -20,10 +20,11 @@ func CheckNetwork(n Network) api.Errno {
 }
 
 func checkLines(lines []Line) api.Errno {
-	seen := names{}
+	seen := base.Names{}
 	return base.CheckEach(lines, func(l Line) api.Errno {
 		return base.FirstError(
-			seen.checkNext(l.Name),
+			checkName(l.Name),
+			seen.CheckNext(l.Name),
 			base.ErrorIf(len(l.Pieces) == 0, api.ErrEmpty),
 			base.ErrorIf(len(l.Pieces) > MaxPieces, api.ErrMany),
 			base.CheckEach(l.Pieces, checkPiece),
@@ -41,10 +42,11 @@ func checkPiece(p Piece) api.Errno {
 }
 
 func (d directory) checkSwitches(switches []Switch) api.Errno {
-	seen := names{}
+	seen := base.Names{}
 	return base.CheckEach(switches, func(s Switch) api.Errno {
 		return base.FirstError(
-			seen.checkNext(s.Name),
+			checkName(s.Name),
+			seen.CheckNext(s.Name),
 			d.checkPlace(Place{s.Line, s.Metre}),
 			d.checkLine(s.Other),
 			base.ErrorIf(s.Line == s.Other, api.ErrConflict),
@@ -53,24 +55,15 @@ func (d directory) checkSwitches(switches []Switch) api.Errno {
 }
 
 func (d directory) checkStructures(structures []Structure) api.Errno {
-	seen := names{}
+	seen := base.Names{}
 	return base.CheckEach(structures, func(s Structure) api.Errno {
 		return base.FirstError(
-			seen.checkNext(s.Name),
+			checkName(s.Name),
+			seen.CheckNext(s.Name),
 			base.ErrorIf(!sample.IsName(s.Kind), api.ErrKind),
 			d.checkSpan(s.Line, s.Span),
 		)
 	})
-}
-
-// names has the names that were seen in a list.
-type names map[string]bool
-
-// checkNext returns the error of the next name of a list.
-func (n names) checkNext(name string) api.Errno {
-	e := base.FirstError(checkName(name), base.ErrorIf(n[name], api.ErrTwice))
-	n[name] = true
-	return e
 }
 
 func checkName(name string) api.Errno {

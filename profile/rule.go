@@ -42,13 +42,7 @@ func length(x api.Interval) int { return x.High - x.Low }
 func isIn(x, other api.Interval) bool { return other.Low <= x.Low && x.High <= other.High }
 
 // checkInterval returns the first error of an interval of a rule, or OK.
-func checkInterval(x api.Interval) api.Errno {
-	return base.FirstError(
-		base.CheckBetween(x.Low, 0, MaxExtent),
-		base.CheckBetween(x.High, 0, MaxExtent),
-		base.ErrorIf(x.Low > x.High, api.ErrOrder),
-	)
-}
+func checkInterval(x api.Interval) api.Errno { return base.CheckInterval(x, 0, MaxExtent) }
 
 // CheckRules returns the first error of rules, or OK.
 func CheckRules(rules []Rule) api.Errno {
@@ -56,19 +50,14 @@ func CheckRules(rules []Rule) api.Errno {
 		return api.ErrMany
 	}
 	all := demands()
-	classes := map[string]bool{}
-	for _, r := range rules {
-		e := base.FirstError(
+	classes := base.Names{}
+	return base.CheckEach(rules, func(r Rule) api.Errno {
+		return base.FirstError(
 			base.ErrorIf(!sample.IsName(r.Class), api.ErrName),
-			base.ErrorIf(classes[r.Class], api.ErrTwice),
+			classes.CheckNext(r.Class),
 			base.CheckEach(all[:], func(d demand) api.Errno { return checkInterval(d.asked(r)) }),
 		)
-		if e != api.OK {
-			return e
-		}
-		classes[r.Class] = true
-	}
-	return api.OK
+	})
 }
 
 // isPossible reports whether the class of a rule is possible for a cluster.

@@ -44,7 +44,7 @@ func (l straight) reached(from, limit int) int {
 		return never
 	}
 	missing := limit*l.den - l.at(from)
-	return min(from+(missing+l.rise-1)/l.rise, never)
+	return min(from+base.RoundedUp(missing, l.rise), never)
 }
 
 // fits reports whether a line differs from measurements by at most an error.
