@@ -1,5 +1,5 @@
-// Package base has what several layers use beside api: first errors, lists,
-// holes, integers of samples, and the lines and words of texts.
+// Package base has what several layers use beside api: first errors, lists, names,
+// intervals, holes, integers of samples, quotients, and the lines and words of texts.
 package base
 
 import (
